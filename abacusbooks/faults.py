@@ -1,11 +1,109 @@
 """What is wrong with what is handed in: a fault is a list of its rule and its place, None if there is none."""
 
+from abacusbooks.hands import NUMBERS_A_STROKE, first_part, second_part, strokes_of
+from abacusbooks.rods import DECKS, NUMBERS_A_ROD, beads_of, digit_forms, ratio_of, rods_of, worth_of, worth_together
+
+MAKE_LENGTH_RULE = 1
+ROD_RULE = 2
+WORTH_TOGETHER_RULE = 3
+DIGITS_RULE = 4
+HAND_RULE = 6
+STROKE_RULE = 7
 BOOK_RULE = 9
+MOST_RODS = 64
+LOWEST_RATIO = 2
+HIGHEST_RATIO = 20
+MOST_BEADS = 15
+HIGHEST_WORTH = 63
+HIGHEST_WORTH_TOGETHER = 255
+MOST_STROKES = 32
+HIGHEST_DIRECTION = 2
+HIGHEST_COST = 255
 HIGHEST_OP = 1
 HIGHEST_DIGIT = 19
 MOST_STEPS = 10
 HIGHEST_STROKE = 31
-MOST_BEADS = 15
+
+
+def first_fault(faults):
+    """Tell the first that is one, None if none is."""
+    for fault in faults:
+        if fault is not None:
+            return fault
+    return None
+
+
+def make_fault(make):
+    """Tell what is wrong with a make: its length, or its first rod that can't be."""
+    if len(make) % NUMBERS_A_ROD != 0 or not 1 <= len(make) // NUMBERS_A_ROD <= MOST_RODS:
+        return [MAKE_LENGTH_RULE, 0]
+    for place, rod in enumerate(rods_of(make)):
+        rule = rule_broken(rod)
+        if rule is not None:
+            return [rule, place]
+    return None
+
+
+def rule_broken(rod):
+    """Tell the first rule that a rod breaks, None if it keeps them all."""
+    if not rod_can_be(rod):
+        return ROD_RULE
+    if worth_together(rod) > HIGHEST_WORTH_TOGETHER:
+        return WORTH_TOGETHER_RULE
+    if len(digit_forms(rod)) < ratio_of(rod):
+        return DIGITS_RULE
+    return None
+
+
+def rod_can_be(rod):
+    """Look at each number of a rod, and at which decks are there."""
+    if not LOWEST_RATIO <= ratio_of(rod) <= HIGHEST_RATIO:
+        return False
+    for deck in range(DECKS):
+        if not deck_can_be(beads_of(rod, deck), worth_of(rod, deck)):
+            return False
+    if beads_of(rod, 0) == 0:
+        return False
+    return beads_of(rod, 2) == 0 or beads_of(rod, 1) > 0
+
+
+def deck_can_be(beads, worth):
+    """Look at a deck by itself: it may be none."""
+    if beads == 0 or worth == 0:
+        return beads == worth
+    return beads <= MOST_BEADS and worth <= HIGHEST_WORTH
+
+
+def hand_fault(hand):
+    """Tell what is wrong with a hand as a whole, or its first stroke that can't be."""
+    if not hand_can_be(hand):
+        return [HAND_RULE, 0]
+    for place, stroke in enumerate(strokes_of(hand)):
+        if not stroke_can_be(stroke):
+            return [STROKE_RULE, place]
+    return None
+
+
+def hand_can_be(hand):
+    """Look at what moving over costs, and at how many numbers there are behind it."""
+    if len(hand) == 0 or hand[0] > HIGHEST_COST:
+        return False
+    behind = len(hand) - 1
+    return behind % NUMBERS_A_STROKE == 0 and behind // NUMBERS_A_STROKE <= MOST_STROKES
+
+
+def stroke_can_be(stroke):
+    """Look at a stroke's parts, and at its cost."""
+    first = first_part(stroke)
+    second = second_part(stroke)
+    if not part_can_be(first) or not 1 <= stroke[6] <= HIGHEST_COST:
+        return False
+    return second == [0, 0, 0] or (part_can_be(second) and second[0] != first[0])
+
+
+def part_can_be(part):
+    """Look at a deck, its direction and how many beads at most."""
+    return part[0] < DECKS and 1 <= part[1] <= HIGHEST_DIRECTION and 1 <= part[2] <= MOST_BEADS
 
 
 def book_fault(book):

@@ -9,7 +9,8 @@ import unittest
 from unittest import mock
 
 import abacusbooks
-from abacusbooks.books import book
+from abacusbooks.books import book, right
+from makers import EACH_DECK, SOROBAN, SUANPAN, right_book
 
 PACKAGE = os.path.dirname(abacusbooks.__file__)
 
@@ -21,6 +22,19 @@ BOOKS = [
     [[0, 7, 8], [0, 7, 9, 1, 0, 0], [2, 0, 0]],
     [[op, d, x] + [31, 15, 15] * 10 for op in range(2) for d in range(20) for x in range(20)],
 ]
+
+
+# Each call that is made: the function, and what is handed in.
+CALLS = [(book, [rows]) for rows in BOOKS] + [(right, given) for given in [
+    [SOROBAN, EACH_DECK, right_book(SOROBAN)],
+    [SOROBAN + SUANPAN, EACH_DECK, right_book(SUANPAN, 1)],
+    [SOROBAN, EACH_DECK, right_book(SOROBAN)[:-1]],
+    [SOROBAN, [0], BOOKS[1]],
+    [SOROBAN[:-1], EACH_DECK, BOOKS[1]],
+    [SOROBAN, EACH_DECK[:-1], BOOKS[1]],
+    [SOROBAN, EACH_DECK, BOOKS[2]],
+    [SOROBAN * 64, EACH_DECK, BOOKS[5]],
+]]
 
 
 def forbid(name):
@@ -38,6 +52,11 @@ for changing in ("__setitem__", "__delitem__", "__iadd__", "__imul__", "append",
     setattr(Untouchable, changing, forbid(changing))
 
 
+def untouchable(argument):
+    """The list, and each list in it, as ones that can't be changed."""
+    return Untouchable(Untouchable(member) if isinstance(member, list) else member for member in argument)
+
+
 def package_trees():
     for folder, unused, files in os.walk(PACKAGE):
         for file in sorted(files):
@@ -49,22 +68,23 @@ def package_trees():
 
 class Manners(unittest.TestCase):
     def test_what_is_handed_in_stays_as_it_was(self):
-        for rows in BOOKS:
-            before = copy.deepcopy(rows)
-            same = list(rows)
-            book(rows)
-            self.assertEqual(rows, before)
-            self.assertTrue(all(row is kept for row, kept in zip(rows, same)))
+        for call, given in CALLS:
+            before = copy.deepcopy(given)
+            same = [list(argument) for argument in given]
+            call(*given)
+            self.assertEqual(given, before)
+            for argument, members in zip(given, same):
+                self.assertTrue(all(member is kept for member, kept in zip(argument, members)))
 
     def test_what_is_handed_in_is_not_changed_for_a_while(self):
-        for rows in BOOKS:
-            self.assertEqual(book(Untouchable(Untouchable(row) for row in rows)), book(rows))
+        for call, given in CALLS:
+            self.assertEqual(call(*[untouchable(argument) for argument in given]), call(*given))
 
     def test_the_same_call_again(self):
-        first = [book(rows) for rows in BOOKS]
-        self.assertEqual([book(rows) for rows in BOOKS], first)
-        self.assertEqual([book(rows) for rows in BOOKS[::-1]], first[::-1])
-        self.assertEqual([book(copy.deepcopy(rows)) for rows in BOOKS], first)
+        first = [call(*given) for call, given in CALLS]
+        self.assertEqual([call(*given) for call, given in CALLS], first)
+        self.assertEqual([call(*given) for call, given in CALLS[::-1]], first[::-1])
+        self.assertEqual([call(*copy.deepcopy(given)) for call, given in CALLS], first)
 
     def test_the_same_list_with_other_rows_in_it(self):
         rows = [[0, 1, 1]]
@@ -74,30 +94,45 @@ class Manners(unittest.TestCase):
         rows[1][2] = 2
         self.assertEqual(book(rows), [0])
 
+    def test_the_same_lists_with_other_numbers_in_them(self):
+        make, hand, rows = list(SOROBAN), list(EACH_DECK), right_book(SOROBAN)
+        self.assertEqual(right(make, hand, rows), [1])
+        make[0] = 9
+        self.assertEqual(right(make, hand, rows), [0, 0, 0, 1, 8, 2])
+        make[0] = 10
+        hand[3] = 1
+        self.assertEqual(right(make, hand, rows), [0, 0, 0, 2, 0, 1])
+        hand[3] = 15
+        rows[0][4] = 2
+        self.assertEqual(right(make, hand, rows), [0, 0, 0, 1, 0, 2])
+        rows[0][4] = 1
+        self.assertEqual(right(make, hand, rows), [1])
+
     def test_an_answer_is_the_callers_own(self):
-        for rows in BOOKS:
-            answer = book(rows)
+        for call, given in CALLS:
+            answer = call(*given)
             expected = list(answer)
             answer.append(77)
             answer[0] = 99
-            self.assertEqual(book(rows), expected)
+            self.assertEqual(call(*given), expected)
 
     def test_an_answer_is_a_list_of_whole_numbers(self):
-        for rows in BOOKS:
-            answer = book(rows)
+        for call, given in CALLS:
+            answer = call(*given)
             self.assertIs(type(answer), list)
             self.assertEqual({type(number) for number in answer}, {int})
 
-    def test_the_argument_by_its_name(self):
+    def test_the_arguments_by_their_names(self):
         self.assertEqual(book(book=[[0, 1, 1], [0, 1, 1]]), [-5, 9, 1])
+        self.assertEqual(right(book=right_book(SOROBAN), hand=EACH_DECK, make=SOROBAN), [1])
 
     def test_nothing_is_printed_or_read(self):
         out, err = io.StringIO(), io.StringIO()
         refuse = mock.Mock(side_effect=AssertionError("read"))
         with contextlib.redirect_stdout(out), contextlib.redirect_stderr(err):
             with mock.patch("builtins.open", refuse), mock.patch("builtins.input", refuse):
-                for rows in BOOKS:
-                    book(rows)
+                for call, given in CALLS:
+                    call(*given)
         self.assertEqual((out.getvalue(), err.getvalue()), ("", ""))
 
     def test_nothing_but_the_package_is_imported(self):
