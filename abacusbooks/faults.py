@@ -1,12 +1,13 @@
 """What is wrong with what is handed in: a fault is a list of its rule and its place, None if there is none."""
 
-from abacusbooks.hands import NUMBERS_A_STROKE, first_part, second_part, strokes_of
+from abacusbooks.hands import NUMBERS_A_STROKE, cost_of, first_part, second_part, strokes_of
 from abacusbooks.rods import DECKS, NUMBERS_A_ROD, beads_of, digit_forms, ratio_of, rods_of, worth_of, worth_together
 
 MAKE_LENGTH_RULE = 1
 ROD_RULE = 2
 WORTH_TOGETHER_RULE = 3
 DIGITS_RULE = 4
+STANDING_RULE = 5
 HAND_RULE = 6
 STROKE_RULE = 7
 BOOK_RULE = 9
@@ -74,6 +75,17 @@ def deck_can_be(beads, worth):
     return beads <= MOST_BEADS and worth <= HIGHEST_WORTH
 
 
+def standing_fault(make, standing):
+    """Tell what is wrong with a standing on a make that can be: its length, or its first number above the beads."""
+    rods = rods_of(make)
+    if len(standing) != DECKS * len(rods):
+        return [STANDING_RULE, len(standing)]
+    for place, pushed in enumerate(standing):
+        if pushed > beads_of(rods[place // DECKS], place % DECKS):
+            return [STANDING_RULE, place]
+    return None
+
+
 def hand_fault(hand):
     """Tell what is wrong with a hand as a whole, or its first stroke that can't be."""
     if not hand_can_be(hand):
@@ -96,7 +108,7 @@ def stroke_can_be(stroke):
     """Look at a stroke's parts, and at its cost."""
     first = first_part(stroke)
     second = second_part(stroke)
-    if not part_can_be(first) or not 1 <= stroke[6] <= HIGHEST_COST:
+    if not part_can_be(first) or not 1 <= cost_of(stroke) <= HIGHEST_COST:
         return False
     return second == [0, 0, 0] or (part_can_be(second) and second[0] != first[0])
 

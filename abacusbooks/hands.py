@@ -1,4 +1,4 @@
-"""Hands: a hand cut into its strokes, and acts done on a rod."""
+"""Hands: a hand cut into its strokes, acts done on a rod, and what a tour costs."""
 
 from abacusbooks.rods import beads_of
 
@@ -19,6 +19,22 @@ def first_part(stroke):
 def second_part(stroke):
     """Tell the same of the second deck, 0 0 0 if there's none."""
     return stroke[3:6]
+
+
+def cost_of(stroke):
+    """Tell what a stroke costs."""
+    return stroke[6]
+
+
+def tour_cost(hand, h, acts):
+    """Tell what acts cost one behind another, the hand being at rod h first."""
+    strokes = strokes_of(hand)
+    cost = 0
+    at = h
+    for act in acts:
+        cost += cost_of(strokes[act[1]]) + hand[0] * abs(act[0] - at)
+        at = act[0]
+    return cost
 
 
 def behind_act(rod, pushed, stroke, n, k):

@@ -1,4 +1,4 @@
-"""Rods: a make cut into them, and the forms of a rod's digits."""
+"""Rods: a make cut into them, its span, and the forms of a rod's digits."""
 
 NUMBERS_A_ROD = 7
 DECKS = 3
@@ -24,24 +24,27 @@ def worth_of(rod, deck):
     return rod[2 + 2 * deck]
 
 
+def span_of(make):
+    """Tell the product of all ratios: the first value that has no digits."""
+    span = 1
+    for rod in rods_of(make):
+        span *= ratio_of(rod)
+    return span
+
+
+def digits_of(value, make):
+    """Tell the digits of a value below the span, from rod 0 on."""
+    digits = []
+    left = value
+    for rod in rods_of(make):
+        digits.append(left % ratio_of(rod))
+        left //= ratio_of(rod)
+    return digits
+
+
 def worth_together(rod):
     """Tell what all beads of a rod are worth."""
     return sum([beads_of(rod, deck) * worth_of(rod, deck) for deck in range(DECKS)])
-
-
-def ways_below_ratio(rod):
-    """List all ways to push a count below the ratio: the count, and how many beads of each deck."""
-    ways = [(0, [])]
-    for deck in range(DECKS):
-        longer = []
-        for count, pushed in ways:
-            for more in range(beads_of(rod, deck) + 1):
-                grown = count + more * worth_of(rod, deck)
-                # Dropped at once: three decks of 15 beads have many more ways than a ratio of 20 leaves.
-                if grown < ratio_of(rod):
-                    longer.append((grown, pushed + [more]))
-        ways = longer
-    return ways
 
 
 def goes_before(way, other):
@@ -53,8 +56,30 @@ def goes_before(way, other):
 
 def digit_forms(rod):
     """Tell the form of each digit that can be pushed: how many beads of each deck, by digit."""
-    forms = {}
-    for digit, way in ways_below_ratio(rod):
-        if digit not in forms or goes_before(way, forms[digit]):
-            forms[digit] = way
+    forms = {0: []}
+    for deck in range(DECKS):
+        forms = forms_with_deck(rod, deck, forms)
     return forms
+
+
+def forms_with_deck(rod, deck, forms):
+    """Tell the forms with beads of one deck more, from those with beads of the decks ahead of it."""
+    longer = {}
+    for digit, form in forms.items():
+        for more in range(beads_of(rod, deck) + 1):
+            grown = digit + more * worth_of(rod, deck)
+            if grown >= ratio_of(rod):
+                break
+            way = form + [more]
+            # Beads of later decks weigh the same on each way to push a count, so the best one so far stays the best.
+            if grown not in longer or goes_before(way, longer[grown]):
+                longer[grown] = way
+    return longer
+
+
+def digits_by_form(rod):
+    """Tell which digit is pushed in which form: the digits, by how many beads of each deck."""
+    digits = {}
+    for digit, form in digit_forms(rod).items():
+        digits[tuple(form)] = digit
+    return digits

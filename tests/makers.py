@@ -2,6 +2,7 @@
 
 import functools
 import itertools
+import math
 
 LARGEST = 4294967295
 CARRY = [0, 0, 0]
@@ -35,6 +36,25 @@ def form_of_rod(rod, digit):
     return min(ways, key=lambda way: (sum(way), -way[0], -way[1]), default=None)
 
 
+def shown(rod, pushed):
+    """The digit that's pushed in its form, None if none is."""
+    digits = [digit for digit in range(rod[0]) if form(rod, digit) == tuple(pushed)]
+    return digits[0] if digits else None
+
+
+def span_of(make):
+    return math.prod(make[::7])
+
+
+def standing_of(make, value):
+    """The standing in form of a value below the span."""
+    standing = []
+    for rod in rods_in(make):
+        standing += form(rod, value % rod[0])
+        value //= rod[0]
+    return standing
+
+
 def acts_between(start, goal):
     """Acts of EACH_DECK from one way to push beads to another."""
     acts = []
@@ -61,6 +81,43 @@ def right_book(rod, carry_at=0):
     return [rule_row(rod, op, d, x, carry_at) for op in range(2) for d in range(1, ratio) for x in range(ratio)]
 
 
+def sides_of(rod, pushed):
+    """A side for each single bead, deck by deck: where it stands is the direction that leads there."""
+    return [[TO_THE_BEAM] * number + [AWAY] * (has - number) for number, has in zip(pushed, beads(rod))]
+
+
+def pushed_of(sides):
+    return tuple(deck.count(TO_THE_BEAM) for deck in sides)
+
+
+def act_on_sides(sides, hand, step):
+    """Push single beads over; tell whether it could be done."""
+    stroke = hand[1 + 7 * step[0]:8 + 7 * step[0]]
+    if not stroke:
+        return False
+    parts = ((stroke[:3], step[1]), (stroke[3:6], step[2]))
+    for part, number in parts:
+        deck, to, most = part
+        if part == [0, 0, 0]:
+            if number:
+                return False
+        elif number < 1 or number > most or sides[deck].count(3 - to) < number:
+            return False
+    for (deck, to, most), number in parts:
+        for unused in range(number):
+            sides[deck].remove(3 - to)
+            sides[deck].append(to)
+    return True
+
+
+def triples(numbers):
+    return [numbers[at:at + 3] for at in range(0, len(numbers), 3)]
+
+
+def rods_in(make):
+    return [make[at:at + 7] for at in range(0, len(make), 7)]
+
+
 def with_row(book, row):
     """The book with this row in the place of its own for the same op, d, x."""
     return [row if row[:3] == other[:3] else other for other in book]
@@ -68,3 +125,49 @@ def with_row(book, row):
 
 def without_row(book, head):
     return [row for row in book if row[:3] != head]
+
+
+class Ends(Exception):
+    """A sum ends with this number."""
+
+
+def summed(op, order, h, v, make, hand, standing, book):
+    """What sum_of has to answer where nothing is faulty, by rules that call one another and single beads."""
+    rods = rods_in(make)
+    sides = [sides_of(rod, standing[3 * number:3 * number + 3]) for number, rod in enumerate(rods)]
+    told = {tuple(row[:3]): triples(row[3:]) for row in book}
+    acts = []
+    steps = itertools.count(1)
+
+    def follow(number, d):
+        digit = shown(rods[number], pushed_of(sides[number]))
+        if digit is None:
+            raise Ends(-9)
+        for step in told.get((op, d, digit), []):
+            if next(steps) > 65536:
+                raise Ends(-8)
+            if step == CARRY:
+                if number + 1 == len(rods):
+                    raise Ends(-6)
+                follow(number + 1, 1)
+            elif act_on_sides(sides[number], hand, step):
+                acts.append([number] + step)
+            else:
+                raise Ends(-9)
+
+    places = [math.prod(make[:7 * number:7]) for number in range(len(rods))]
+    digits = [(number, v // places[number] % rod[0]) for number, rod in enumerate(rods)]
+    try:
+        for number, d in digits if order else digits[::-1]:
+            if d:
+                follow(number, d)
+    except Ends as end:
+        return [end.args[0]]
+    then = [number for rod in sides for number in pushed_of(rod)]
+    return [0, cost(hand, h, acts)] + then + list(itertools.chain(*acts))
+
+
+def cost(hand, h, acts):
+    """What a tour costs, the hand being at rod h first."""
+    rods = [h] + [act[0] for act in acts]
+    return sum(hand[7 + 7 * act[1]] for act in acts) + hand[0] * sum(abs(a - b) for a, b in zip(rods, rods[1:]))

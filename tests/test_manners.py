@@ -9,8 +9,8 @@ import unittest
 from unittest import mock
 
 import abacusbooks
-from abacusbooks.books import book, right
-from makers import EACH_DECK, SOROBAN, SUANPAN, right_book
+from abacusbooks.books import book, right, sum_of
+from makers import CARRY, EACH_DECK, SOROBAN, SUANPAN, right_book, standing_of
 
 PACKAGE = os.path.dirname(abacusbooks.__file__)
 
@@ -34,6 +34,20 @@ CALLS = [(book, [rows]) for rows in BOOKS] + [(right, given) for given in [
     [SOROBAN, EACH_DECK[:-1], BOOKS[1]],
     [SOROBAN, EACH_DECK, BOOKS[2]],
     [SOROBAN * 64, EACH_DECK, BOOKS[5]],
+]] + [(sum_of, given) for given in [
+    [0, 0, 1, 58, SUANPAN * 3, EACH_DECK, standing_of(SUANPAN * 3, 789), right_book(SOROBAN)],
+    [1, 1, 0, 789, SOROBAN * 3, EACH_DECK, standing_of(SOROBAN * 3, 800), right_book(SOROBAN, 1)],
+    [0, 0, 2, 0, SOROBAN * 3, EACH_DECK, standing_of(SOROBAN * 3, 800), BOOKS[1]],
+    [0, 1, 2, 999, SOROBAN * 3, EACH_DECK, standing_of(SOROBAN * 3, 1), right_book(SOROBAN)],
+    [0, 1, 0, 7, SOROBAN, EACH_DECK, standing_of(SOROBAN, 8), [[0, 7, 8, 1, 2, 0, 31, 1, 0]]],
+    [0, 0, 0, 1, SOROBAN * 64, EACH_DECK, [0] * 189 + [1, 0, 0], [[0, 1, 0, 0, 1, 0, 1, 1, 0] + CARRY * 8]],
+    [0, 0, 3, 1, SOROBAN * 3, EACH_DECK, [0] * 9, []],
+    [0, 0, 0, 1000, SOROBAN * 3, EACH_DECK, [0] * 9, []],
+    [0, 0, 0, 1, SUANPAN, EACH_DECK, [5, 0, 0], []],
+    [0, 0, 0, 1, SUANPAN, EACH_DECK, [6, 0, 0], []],
+    [0, 0, 0, 1, [], [], [], [[]]],
+    [0, 0, 0, 1, SUANPAN, [], [], [[]]],
+    [0, 0, 0, 1, SUANPAN, EACH_DECK, [0, 0, 0], [[]]],
 ]]
 
 
@@ -53,8 +67,12 @@ for changing in ("__setitem__", "__delitem__", "__iadd__", "__imul__", "append",
 
 
 def untouchable(argument):
-    """The list, and each list in it, as ones that can't be changed."""
-    return Untouchable(Untouchable(member) if isinstance(member, list) else member for member in argument)
+    """A list, and each list in it, as ones that can't be changed; a number as it is."""
+    return Untouchable(map(untouchable, argument)) if isinstance(argument, list) else argument
+
+
+def members(argument):
+    return list(argument) if isinstance(argument, list) else [argument]
 
 
 def package_trees():
@@ -70,11 +88,11 @@ class Manners(unittest.TestCase):
     def test_what_is_handed_in_stays_as_it_was(self):
         for call, given in CALLS:
             before = copy.deepcopy(given)
-            same = [list(argument) for argument in given]
+            same = [members(argument) for argument in given]
             call(*given)
             self.assertEqual(given, before)
-            for argument, members in zip(given, same):
-                self.assertTrue(all(member is kept for member, kept in zip(argument, members)))
+            for argument, kept in zip(given, same):
+                self.assertTrue(all(member is old for member, old in zip(members(argument), kept)))
 
     def test_what_is_handed_in_is_not_changed_for_a_while(self):
         for call, given in CALLS:
@@ -108,6 +126,14 @@ class Manners(unittest.TestCase):
         rows[0][4] = 1
         self.assertEqual(right(make, hand, rows), [1])
 
+    def test_the_same_standing_with_other_numbers_in_it(self):
+        standing, rows = [1, 0, 0], right_book(SOROBAN)
+        self.assertEqual(sum_of(0, 0, 0, 1, SOROBAN, EACH_DECK, standing, rows), [0, 1, 2, 0, 0, 0, 0, 1, 0])
+        standing[0] = 3
+        self.assertEqual(sum_of(0, 0, 0, 1, SOROBAN, EACH_DECK, standing, rows), [0, 1, 4, 0, 0, 0, 0, 1, 0])
+        standing[2] = 1
+        self.assertEqual(sum_of(0, 0, 0, 1, SOROBAN, EACH_DECK, standing, rows), [-5, 5, 2])
+
     def test_an_answer_is_the_callers_own(self):
         for call, given in CALLS:
             answer = call(*given)
@@ -125,6 +151,9 @@ class Manners(unittest.TestCase):
     def test_the_arguments_by_their_names(self):
         self.assertEqual(book(book=[[0, 1, 1], [0, 1, 1]]), [-5, 9, 1])
         self.assertEqual(right(book=right_book(SOROBAN), hand=EACH_DECK, make=SOROBAN), [1])
+        answer = sum_of(book=right_book(SOROBAN), standing=[1, 0, 0, 0, 0, 0], hand=EACH_DECK, make=SOROBAN * 2,
+                        v=2, h=1, order=1, op=0)
+        self.assertEqual(answer, [0, 8, 3, 0, 0, 0, 0, 0, 0, 0, 2, 0])
 
     def test_nothing_is_printed_or_read(self):
         out, err = io.StringIO(), io.StringIO()
@@ -142,14 +171,25 @@ class Manners(unittest.TestCase):
                 if isinstance(node, ast.ImportFrom):
                     self.assertEqual((node.level, node.module.split(".")[0]), (0, "abacusbooks"), path)
 
-    def test_no_function_calls_itself(self):
-        # What is as long as its input is gone through by loops.
+    def test_no_function_calls_itself_in_whatever_many_steps(self):
+        # What is nested, or as long as its input, is gone through by loops.
+        calls = {}
         for path, tree in package_trees():
             for node in ast.walk(tree):
                 if isinstance(node, ast.FunctionDef):
-                    called = [call.func.id for call in ast.walk(node)
-                              if isinstance(call, ast.Call) and isinstance(call.func, ast.Name)]
-                    self.assertNotIn(node.name, called, path)
+                    calls.setdefault(node.name, set()).update(called_in(node))
+        for name in calls:
+            reached, ahead = set(), {name}
+            while ahead:
+                ahead = {called for caller in ahead for called in calls[caller] if called in calls} - reached
+                reached |= ahead
+            self.assertNotIn(name, reached)
+
+
+def called_in(function):
+    """The names of what a function calls, methods among them."""
+    called = [node.func for node in ast.walk(function) if isinstance(node, ast.Call)]
+    return {func.id if isinstance(func, ast.Name) else func.attr for func in called}
 
 
 if __name__ == "__main__":

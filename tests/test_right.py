@@ -4,8 +4,8 @@ import random
 import unittest
 
 from abacusbooks.books import right
-from makers import (AWAY, CARRY, EACH_DECK, LARGEST, SOROBAN, SUANPAN, TO_THE_BEAM, act_on, acts_between, beads, form,
-                    right_book, rule_row, with_row, without_row)
+from makers import (AWAY, CARRY, EACH_DECK, LARGEST, SOROBAN, SUANPAN, TO_THE_BEAM, act_on, act_on_sides, acts_between,
+                    beads, form, pushed_of, right_book, rods_in, rule_row, sides_of, triples, with_row, without_row)
 
 RIGHT = [1]
 QUATERNARY = [4, 3, 1, 0, 0, 0, 0]
@@ -47,41 +47,20 @@ def due(rod, head):
 def judged(make, hand, book):
     """The answer that the document asks for, by sides of single beads; what is handed in has no fault."""
     told = {tuple(row[:3]): row[3:] for row in book}
-    for number, rod in enumerate([make[at:at + 7] for at in range(0, len(make), 7)]):
+    for number, rod in enumerate(rods_in(make)):
         for head in heads(rod):
-            steps = told.get(tuple(head), [])
-            sides = [[1] * pushed + [2] * (has - pushed) for pushed, has in zip(form(rod, head[2]), beads(rod))]
-            done = all(act_on_sides(sides, hand, steps[at:at + 3]) for at in range(0, len(steps), 3))
-            carries = [steps[at:at + 3] for at in range(0, len(steps), 3)].count(CARRY)
+            steps = triples(told.get(tuple(head), []))
+            sides = sides_of(rod, form(rod, head[2]))
+            done = all(step == CARRY or act_on_sides(sides, hand, step) for step in steps)
+            carries = steps.count(CARRY)
             shown, carries_due = due(rod, head)
             if not done:
                 return [0, number] + head + [1]
-            if tuple(deck.count(1) for deck in sides) != form(rod, shown):
+            if pushed_of(sides) != form(rod, shown):
                 return [0, number] + head + [2]
             if carries != carries_due:
                 return [0, number] + head + [3]
     return RIGHT
-
-
-def act_on_sides(sides, hand, step):
-    """Push single beads over; tell whether it could be done."""
-    if step == CARRY:
-        return True
-    stroke = hand[1 + 7 * step[0]:8 + 7 * step[0]]
-    if not stroke:
-        return False
-    for part, number in ((stroke[:3], step[1]), (stroke[3:6], step[2])):
-        if part == [0, 0, 0]:
-            if number:
-                return False
-            continue
-        deck, to, most = part
-        if number < 1 or number > most or sides[deck].count(3 - to) < number:
-            return False
-        for unused in range(number):
-            sides[deck].remove(3 - to)
-            sides[deck].append(to)
-    return True
 
 
 class RightBooks(unittest.TestCase):
