@@ -1,5 +1,6 @@
 """The calls."""
 
+from abacusbooks.best_rules import NoActsLeadThere, TooManySteps, best_rules
 from abacusbooks.faults import book_fault, first_fault, hand_fault, make_fault, standing_fault
 from abacusbooks.frames import Frame, in_one_list
 from abacusbooks.hands import tour_cost
@@ -51,3 +52,20 @@ def sum_of(op, order, h, v, make, hand, standing, book):
     except TooLong:
         return [-8]
     return [0, tour_cost(hand, h, acts)] + frame.as_standing() + in_one_list(acts)
+
+
+def best(rod, where, make, hand):
+    """Answer 0 and the best book for a rod, rule by rule; else why there's none, and the first op, d, x it's so for."""
+    fault = first_fault([make_fault(make), hand_fault(hand)])
+    if fault is not None:
+        return [-5] + fault
+    rods = rods_of(make)
+    if rod >= len(rods) or where > 1:
+        return [-1]
+    try:
+        rules = best_rules(rods[rod], where, hand)
+    except NoActsLeadThere as refused:
+        return [-2] + refused.head
+    except TooManySteps as refused:
+        return [-8] + refused.head
+    return [0] + rules

@@ -1,7 +1,9 @@
 """What is wrong with what is handed in: a fault is a list of its rule and its place, None if there is none."""
 
 from abacusbooks.hands import NUMBERS_A_STROKE, cost_of, first_part, second_part, strokes_of
-from abacusbooks.rods import DECKS, NUMBERS_A_ROD, beads_of, digit_forms, ratio_of, rods_of, worth_of, worth_together
+from abacusbooks.rods import DECKS, MOST_BEADS, NUMBERS_A_ROD, beads_of, digit_forms, ratio_of, rods_of, worth_of
+from abacusbooks.rods import worth_together
+from abacusbooks.rules import MOST_STEPS
 
 MAKE_LENGTH_RULE = 1
 ROD_RULE = 2
@@ -14,7 +16,6 @@ BOOK_RULE = 9
 MOST_RODS = 64
 LOWEST_RATIO = 2
 HIGHEST_RATIO = 20
-MOST_BEADS = 15
 HIGHEST_WORTH = 63
 HIGHEST_WORTH_TOGETHER = 255
 MOST_STROKES = 32
@@ -22,7 +23,6 @@ HIGHEST_DIRECTION = 2
 HIGHEST_COST = 255
 HIGHEST_OP = 1
 HIGHEST_DIGIT = 19
-MOST_STEPS = 10
 HIGHEST_STROKE = 31
 
 

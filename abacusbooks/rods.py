@@ -2,6 +2,7 @@
 
 NUMBERS_A_ROD = 7
 DECKS = 3
+MOST_BEADS = 15
 
 
 def rods_of(make):

@@ -6,6 +6,7 @@ from abacusbooks.rods import digit_forms, ratio_of, rods_of
 ADD = 0
 TAKE_AWAY = 1
 CARRY = (0, 0, 0)
+MOST_STEPS = 10
 ACT_CANNOT_BE_DONE = 1
 SHOWS_OTHERWISE = 2
 OTHER_CARRIES = 3
@@ -53,12 +54,17 @@ def why_not_right(rod, forms, strokes, op, d, x, steps):
     shown = behind_acts(rod, forms[x], strokes, steps)
     if shown is None:
         return ACT_CANNOT_BE_DONE
-    due = x + d if op == ADD else x - d
+    due = due_on(op, d, x)
     if shown != forms[due % ratio_of(rod)]:
         return SHOWS_OTHERWISE
     if steps.count(CARRY) != carries_due(due, ratio_of(rod)):
         return OTHER_CARRIES
     return None
+
+
+def due_on(op, d, x):
+    """Tell what is due where x stands: it's a digit, or one more or less the ratio."""
+    return x + d if op == ADD else x - d
 
 
 def carries_due(due, ratio):

@@ -1,6 +1,7 @@
 """What several tests make their inputs with; it takes nothing from the package."""
 
 import functools
+import heapq
 import itertools
 import math
 
@@ -171,3 +172,79 @@ def cost(hand, h, acts):
     """What a tour costs, the hand being at rod h first."""
     rods = [h] + [act[0] for act in acts]
     return sum(hand[7 + 7 * act[1]] for act in acts) + hand[0] * sum(abs(a - b) for a, b in zip(rods, rods[1:]))
+
+
+def is_due(answer, op, h, v, make, hand, value):
+    """Whether it's what sum_of has to answer by a right book: the sum in form, by acts that lead there."""
+    after = value - v if op else value + v
+    if not 0 <= after < span_of(make):
+        return answer == [-6]
+    then, numbers = answer[2:2 + len(make) // 7 * 3], answer[2 + len(make) // 7 * 3:]
+    acts = [numbers[at:at + 4] for at in range(0, len(numbers), 4)]
+    sides = [sides_of(rod, pushed) for rod, pushed in zip(rods_in(make), triples(standing_of(make, value)))]
+    done = all([act_on_sides(sides[act[0]], hand, act[1:]) for act in acts])
+    led_to = [number for rod in sides for number in pushed_of(rod)]
+    return done and led_to == then == standing_of(make, after) and answer[:2] == [0, cost(hand, h, acts)]
+
+
+def heads(rod):
+    """Each op, d, x that a rod has, in order."""
+    return [[op, d, x] for op in range(2) for d in range(1, rod[0]) for x in range(rod[0])]
+
+
+def due(rod, head):
+    """What the rod has to show, and how many carries there have to be."""
+    op, d, x = head
+    number = x - d if op else x + d
+    return number % rod[0], 0 if 0 <= number < rod[0] else 1
+
+
+def each_act(rod, hand, pushed):
+    """Each act that can be done on a rod, in order: stroke, n, k; what is pushed then; the cost."""
+    for number in range(len(hand) // 7):
+        stroke = hand[1 + 7 * number:8 + 7 * number]
+        for n in range(1, stroke[2] + 1):
+            for k in range(1, stroke[5] + 1) if stroke[5] else [0]:
+                sides = sides_of(rod, pushed)
+                if act_on_sides(sides, hand, [number, n, k]):
+                    yield (number, n, k), pushed_of(sides), stroke[6]
+
+
+def first_tours(rod, hand, start):
+    """The first of the cheapest tours from one way to push a rod to each other: by what is pushed, cost and acts."""
+    found = {}
+    ahead = [(0, (), start)]
+    while ahead:
+        spent, acts, pushed = heapq.heappop(ahead)
+        if pushed not in found:
+            found[pushed] = spent, acts
+            for act, behind, more in each_act(rod, hand, pushed):
+                if behind not in found:
+                    heapq.heappush(ahead, (spent + more, acts + (act,), behind))
+    return found
+
+
+def best_of(rod, where, hand):
+    """What best has to answer where nothing is refused, by tours that go on from their beginning."""
+    tours = [first_tours(rod, hand, form(rod, x)) for x in range(rod[0])]
+    answer = [0]
+    for head in heads(rod):
+        goal, carries = due(rod, head)
+        if form(rod, goal) not in tours[head[2]]:
+            return [-2] + head
+        acts = [list(act) for act in tours[head[2]][form(rod, goal)][1]]
+        steps = acts + [CARRY] * carries if where else [CARRY] * carries + acts
+        if len(steps) > 10:
+            return [-8] + head
+        answer += head + [len(steps)] + sum(steps, [])
+    return answer
+
+
+def rows_of(answer):
+    """A book's rows, of what best answers."""
+    rows, at = [], 1
+    while at < len(answer):
+        steps = answer[at + 3]
+        rows.append(answer[at:at + 3] + answer[at + 4:at + 4 + 3 * steps])
+        at += 4 + 3 * steps
+    return rows

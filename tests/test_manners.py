@@ -9,7 +9,7 @@ import unittest
 from unittest import mock
 
 import abacusbooks
-from abacusbooks.books import book, right, sum_of
+from abacusbooks.books import best, book, right, sum_of
 from makers import CARRY, EACH_DECK, SOROBAN, SUANPAN, right_book, standing_of
 
 PACKAGE = os.path.dirname(abacusbooks.__file__)
@@ -48,6 +48,16 @@ CALLS = [(book, [rows]) for rows in BOOKS] + [(right, given) for given in [
     [0, 0, 0, 1, [], [], [], [[]]],
     [0, 0, 0, 1, SUANPAN, [], [], [[]]],
     [0, 0, 0, 1, SUANPAN, EACH_DECK, [0, 0, 0], [[]]],
+]] + [(best, given) for given in [
+    [0, 0, SOROBAN, EACH_DECK],
+    [1, 1, SOROBAN + SUANPAN, EACH_DECK],
+    [0, 1, [20, 15, 1, 15, 1, 15, 1], EACH_DECK + [0, 1, 15, 1, 2, 15, 255] * 26],
+    [0, 0, SOROBAN, [0]],
+    [0, 0, [11, 10, 1, 0, 0, 0, 0], [0, 0, 1, 1, 0, 0, 0, 1, 0, 2, 1, 0, 0, 0, 1]],
+    [1, 0, SOROBAN, EACH_DECK],
+    [0, 2, SOROBAN, EACH_DECK],
+    [0, 0, SOROBAN[:-1], EACH_DECK],
+    [0, 0, SOROBAN, EACH_DECK[:-1]],
 ]]
 
 
@@ -134,6 +144,20 @@ class Manners(unittest.TestCase):
         standing[2] = 1
         self.assertEqual(sum_of(0, 0, 0, 1, SOROBAN, EACH_DECK, standing, rows), [-5, 5, 2])
 
+    def test_the_same_make_and_hand_with_other_numbers_in_them(self):
+        make, hand = [2, 1, 1, 0, 0, 0, 0], [0, 0, 1, 1, 0, 0, 0, 1, 0, 2, 1, 0, 0, 0, 1]
+        first = best(0, 0, make, hand)
+        self.assertEqual(first[:8], [0, 0, 1, 0, 1, 0, 1, 0])
+        hand[2] = 2
+        self.assertEqual(best(0, 0, make, hand), [-2, 0, 1, 0])
+        hand[2] = 1
+        make[0] = 3
+        self.assertEqual(best(0, 0, make, hand), [-5, 4, 0])
+        make[1] = 2
+        self.assertEqual(best(0, 0, make, hand)[:15], [0, 0, 1, 0, 1, 0, 1, 0, 0, 1, 1, 1, 0, 1, 0])
+        make[:2] = [2, 1]
+        self.assertEqual(best(0, 0, make, hand), first)
+
     def test_an_answer_is_the_callers_own(self):
         for call, given in CALLS:
             answer = call(*given)
@@ -154,6 +178,7 @@ class Manners(unittest.TestCase):
         answer = sum_of(book=right_book(SOROBAN), standing=[1, 0, 0, 0, 0, 0], hand=EACH_DECK, make=SOROBAN * 2,
                         v=2, h=1, order=1, op=0)
         self.assertEqual(answer, [0, 8, 3, 0, 0, 0, 0, 0, 0, 0, 2, 0])
+        self.assertEqual(best(hand=EACH_DECK, make=SOROBAN, where=0, rod=0)[:8], [0, 0, 1, 0, 1, 0, 1, 0])
 
     def test_nothing_is_printed_or_read(self):
         out, err = io.StringIO(), io.StringIO()

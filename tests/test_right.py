@@ -5,7 +5,8 @@ import unittest
 
 from abacusbooks.books import right
 from makers import (AWAY, CARRY, EACH_DECK, LARGEST, SOROBAN, SUANPAN, TO_THE_BEAM, act_on, act_on_sides, acts_between,
-                    beads, form, pushed_of, right_book, rods_in, rule_row, sides_of, triples, with_row, without_row)
+                    beads, due, form, heads, pushed_of, right_book, rods_in, rule_row, sides_of, triples, with_row,
+                    without_row)
 
 RIGHT = [1]
 QUATERNARY = [4, 3, 1, 0, 0, 0, 0]
@@ -30,18 +31,6 @@ SEVERAL_WAYS = [
 ]
 ONE_WAY = [SOROBAN, TERNARY, BINARY, THREE_DECKS, [8, 1, 4, 1, 2, 1, 1], [16, 15, 1, 0, 0, 0, 0],
            [20, 4, 1, 3, 5, 0, 0], [2, 1, 1, 1, 63, 0, 0]]
-
-
-def heads(rod):
-    """Each op, d, x that a rod has, in order."""
-    return [[op, d, x] for op in range(2) for d in range(1, rod[0]) for x in range(rod[0])]
-
-
-def due(rod, head):
-    """What the rod has to show, and how many carries there have to be."""
-    op, d, x = head
-    number = x - d if op else x + d
-    return number % rod[0], 0 if 0 <= number < rod[0] else 1
 
 
 def judged(make, hand, book):

@@ -5,14 +5,13 @@ import random
 import unittest
 
 from abacusbooks.books import sum_of
-from makers import (AWAY, CARRY, EACH_DECK, SOROBAN, SUANPAN, TO_THE_BEAM, act_on, act_on_sides, cost, pushed_of,
-                    right_book, rods_in, sides_of, span_of, standing_of, summed, with_row, without_row)
+from makers import (CARRY, EACH_DECK, SOROBAN, SUANPAN, TO_THE_BEAM, act_on, is_due, right_book, span_of, standing_of,
+                    summed, with_row, without_row)
 
 BINARY = [2, 1, 1, 0, 0, 0, 0]
 TERNARY = [3, 2, 1, 0, 0, 0, 0]
 TWENTY = [20, 4, 1, 3, 5, 0, 0]
 THREE_DECKS = [12, 2, 1, 1, 3, 1, 6]
-RUNS_OVER = [-6]
 
 # Deck 0 costs 2 to the beam and 3 away, deck 1 costs 5 and 7; moving over costs 11 a rod.
 PRICED = [11, 0, 1, 4, 0, 0, 0, 2, 0, 2, 4, 0, 0, 0, 3, 1, 1, 1, 0, 0, 0, 5, 1, 2, 1, 0, 0, 0, 7]
@@ -211,25 +210,7 @@ class ByARightBook(unittest.TestCase):
 
     def check(self, op, order, h, v, make, value, book, hand=EACH_DECK):
         answer = sum_of(op, order, h, v, make, hand, standing_of(make, value), book)
-        due = value - v if op else value + v
-        if 0 <= due < span_of(make):
-            rods = len(make) // 7
-            self.assertEqual(answer[0], 0)
-            self.assertEqual(answer[2:2 + 3 * rods], standing_of(make, due))
-            self.check_tour(make, hand, h, standing_of(make, value), answer)
-        else:
-            self.assertEqual(answer, RUNS_OVER)
-
-    def check_tour(self, make, hand, h, standing, answer):
-        """The acts lead from the standing to the answer's, and cost what it says."""
-        rods = rods_in(make)
-        sides = [sides_of(rod, standing[3 * number:3 * number + 3]) for number, rod in enumerate(rods)]
-        numbers = answer[2 + 3 * len(rods):]
-        acts = [numbers[at:at + 4] for at in range(0, len(numbers), 4)]
-        for act in acts:
-            self.assertTrue(act_on_sides(sides[act[0]], hand, act[1:]))
-        self.assertEqual([number for rod in sides for number in pushed_of(rod)], answer[2:2 + 3 * len(rods)])
-        self.assertEqual(cost(hand, h, acts), answer[1])
+        self.assertTrue(is_due(answer, op, h, v, make, hand, value), answer)
 
     def test_one_rod(self):
         for rod in self.RODS:
